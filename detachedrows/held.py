@@ -59,8 +59,8 @@ def tree_sizes(held, item):
     return [steps[item], depths[item]]
 
 
-def rows_hung_on(held, item):
-    """The rows that an item hangs on, by their numbers, in order."""
+def items_hung_on(held, item):
+    """The items that an item hangs on, itself too, by their numbers, in order."""
     hung = {item: True}
     # A row's items are told before it, so backwards each one is known in time.
     for number in range(item, held.axiom_count() - 1, -1):
@@ -68,4 +68,4 @@ def rows_hung_on(held, item):
             pair = held.rows[number - held.axiom_count()]
             hung[pair[0]] = True
             hung[pair[1]] = True
-    return [number for number in sorted(hung) if number >= held.axiom_count()]
+    return sorted(hung)

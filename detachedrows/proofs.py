@@ -4,7 +4,7 @@ from detachedrows.desk import LOAD, Desk
 
 # How many numbers are given with a call, by the call's number; load's first one tells how
 # many bytes come behind it.
-GIVEN = (1, 0, 1, 1, 2)
+GIVEN = (1, 0, 1, 1, 2, 2, 2, 1, 0)
 
 
 def answers(calls):

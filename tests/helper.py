@@ -9,6 +9,9 @@ WORKED = (
     "row i : a, k ; row b : k, i ; goal p > p ; goal q > p > p ; goal p > q ;"
 )
 FAR = 10 ** 18
+# What detach answers where nothing is detached, and what is refused for an item that has no formula.
+NOTHING = [0]
+NO_FORMULA = [-5]
 
 
 def load(text):
@@ -31,6 +34,22 @@ def sizes(item):
 
 def proves(item, goal):
     return [4, item, goal]
+
+
+def detach(first, second):
+    return [5, first, second]
+
+
+def compare(first, second):
+    return [6, first, second]
+
+
+def needs(item):
+    return [7, item]
+
+
+def goals():
+    return [8]
 
 
 def ask(*calls):
@@ -64,8 +83,12 @@ def one_form(text):
 
 
 def detached(first, second):
-    """The formula of the row that is detached from two axioms, told as numbers, or [-5]."""
-    return ask(load(f"axiom a : {first} ; axiom b : {second} ; row r : a, b ;"), formula(2))[1]
+    """What is detached from two axioms, told as numbers, or NOTHING; the row has to have the same formula."""
+    text = f"axiom a : {first} ; axiom b : {second} ; row r : a, b ;"
+    loaded, of_row, result = ask(load(text), formula(2), detach(0, 1))
+    if loaded != [1, 2, 1, 0] or of_row != (NO_FORMULA if result == NOTHING else result):
+        raise AssertionError(f"loaded {loaded}: the row has {of_row}, but {result} is detached")
+    return result
 
 
 def numbers_of(text):
@@ -216,6 +239,20 @@ def is_instance(tree, pattern, put=None):
     if tree[0] != pattern[0]:
         return False
     return all(is_instance(a, b, put) for a, b in zip(tree[1:], pattern[1:]))
+
+
+def instance_of(tree, put):
+    """A tree with other trees put for its unknowns, all at once."""
+    if tree[0] == "x":
+        return put[tree[1]]
+    return (tree[0],) + tuple(instance_of(part, put) for part in tree[1:])
+
+
+def made_more_general(tree, chance, names):
+    """A tree with an unknown in place of some parts, the same for the same ones, or not."""
+    if tree[0] == "x" or chance.random() < 0.25:
+        return ("x", names.setdefault((tree, chance.randrange(2)), len(names)))
+    return (tree[0],) + tuple(made_more_general(part, chance, names) for part in tree[1:])
 
 
 def some_tree(chance, most, unknowns):

@@ -3,16 +3,20 @@
 import unittest
 
 from detachedrows.proofs import answers
-from helper import FAR, WORKED, ask, chance_of, formula, load, one_form, proves, shown, sizes
+from helper import (
+    FAR, WORKED, ask, chance_of, compare, detach, formula, goals, load, needs, one_form, proves, shown, sizes,
+)
 
 CHAIN = "axiom k : x > y > x ; row r0 : k, k ; " + "".join(f"row r{n + 1} : r{n}, r{n} ; " for n in range(23))
 
 
 class Worked(unittest.TestCase):
     def test_the_worked_text(self):
-        found = ask(load(WORKED), formula(2), formula(3), sizes(3), sizes(4), proves(3, 0), proves(3, 1))
+        found = ask(load(WORKED), formula(2), formula(3), sizes(3), sizes(4), proves(3, 0), proves(3, 1), goals(),
+                    needs(3), detach(3, 0), detach(0, 3), compare(4, 0), compare(3, 3))
         self.assertEqual(found, [[1, 2, 3, 3], [7, 1, 1, 0, 0, 0, 1, 1, 0, 0, 0, 0], [3, 1, 0, 0, 0, 0],
-                                 [2, 2, 2], [3, 3, 3], [1], [0]])
+                                 [2, 2, 2], [3, 3, 3], [1], [0], [3, 3, 4, -1],
+                                 [4, 0, 1, 2, 3], [5, 1, 0, 0, 1, 0, 1, 0, 0], [5, 1, 0, 0, 1, 0, 1, 0, 1], [0], [3]])
 
     def test_shown_and_loaded_again_it_is_shown_the_same(self):
         form = ask(load(WORKED), shown())[1]
@@ -131,15 +135,17 @@ class Refusals(unittest.TestCase):
 
     def test_every_call_but_load_while_there_is_no_text(self):
         calls = [shown(), formula(0), sizes(0), proves(0, 0), formula(-1), formula(FAR), sizes(-FAR), sizes(99),
-                 proves(-1, 0), proves(0, -1), proves(FAR, -FAR)]
+                 proves(-1, 0), proves(0, -1), proves(FAR, -FAR), detach(0, 0), detach(FAR, -1), compare(0, 0),
+                 compare(-FAR, 0), needs(0), needs(FAR), goals()]
         self.assertEqual(ask(*calls), [[-1]] * len(calls))
         self.assertEqual(ask(load("axiom"), *calls), [[0, 3, 5]] + [[-1]] * len(calls))
         self.assertEqual(ask(*calls, load("axiom k : x ;"), sizes(0)), [[-1]] * len(calls) + [[1, 1, 0, 0], [0, 0, 0]])
 
     def test_no_such_item(self):
         for number in self.NUMBERS:
-            found = ask(load(WORKED), formula(number), sizes(number), proves(number, 0), proves(number, 2))
-            self.assertEqual(found[1:], [[-2]] * 4, number)
+            found = ask(load(WORKED), formula(number), sizes(number), proves(number, 0), proves(number, 2),
+                        detach(number, 0), detach(0, number), compare(number, 0), compare(0, number), needs(number))
+            self.assertEqual(found[1:], [[-2]] * 9, number)
 
     def test_no_such_goal(self):
         for number in (3, 4) + self.NUMBERS:
@@ -164,8 +170,9 @@ class Refusals(unittest.TestCase):
 
     def test_a_refusal_leaves_the_text(self):
         form = ask(load(WORKED), shown())[1]
-        found = ask(load(WORKED), formula(9), sizes(-1), proves(0, 9), proves(9, 9), shown(), proves(3, 0))
-        self.assertEqual(found[1:], [[-2], [-2], [-3], [-2], form, [1]])
+        found = ask(load(WORKED), formula(9), sizes(-1), proves(0, 9), proves(9, 9), detach(0, 9), compare(9, 0),
+                    needs(-1), shown(), proves(3, 0))
+        self.assertEqual(found[1:], [[-2], [-2], [-3], [-2], [-2], [-2], [-2], form, [1]])
 
 
 class Interface(unittest.TestCase):
@@ -176,17 +183,26 @@ class Interface(unittest.TestCase):
         self.assertEqual(answers(line), [1, -1, 4, 1, 1, 0, 1, 3, 1, 0, 0, 3, 0, 0, 0, 1, 1, 1, -3,
                                          len(form) + 1, len(form)] + form + [1, -2, 3, 0, 3, 0])
 
+    def test_each_call_has_its_number_and_its_numbers_in_their_order(self):
+        text = list(b"axiom u : ~ x ; axiom i : x > x ; row r : i, u ; goal ~ x ;")
+        line = [0, len(text)] + text + [5, 1, 0, 5, 0, 1, 6, 0, 1, 7, 2, 8, 6, 2, 0, 5, 9, 8, 8, 7, -7, 6, 1, 3]
+        self.assertEqual(answers(line), [4, 1, 2, 1, 1, 4, 2, 2, 0, 0, 1, 0, 1, 0, 4, 3, 0, 1, 2, 2, 1, 0, 1, 3,
+                                         1, -2, 2, 1, 0, 1, -2, 1, -2])
+        self.assertEqual(answers([8, 7, 8, 6, 8, 8, 5, 8, 8, 8]), [1, -1] * 5)
+
     def test_one_call(self):
         self.assertEqual(answers([1]), [1, -1])
         self.assertEqual(answers([0, 0]), [3, 0, 3, 0])
         self.assertEqual(answers([4, FAR, -FAR]), [1, -1])
 
     def test_60_calls(self):
-        calls = [load(WORKED)] + [shown(), formula(3), sizes(4), proves(3, 0)] * 14 + [formula(2), sizes(2), shown()]
+        some = [shown(), formula(3), sizes(4), proves(3, 0), detach(1, 0), compare(2, 3), needs(4), goals()]
+        calls = [load(WORKED)] + some * 7 + [formula(2), sizes(2), shown()]
         self.assertEqual(len(calls), 60)
         found = ask(*calls)
-        self.assertEqual(found[1:5] * 14, found[1:57])
+        self.assertEqual(found[1:9] * 7, found[1:57])
         self.assertEqual(found[59], found[1])
+        self.assertEqual(found[5], found[57])
 
     def test_bytes_that_are_like_calls(self):
         self.assertEqual(ask(load([1, 1, 1]), shown(), load([2, 0]), load([])),
@@ -197,7 +213,8 @@ class Interface(unittest.TestCase):
                          [[1, 2, 3, 3], [0, 1, 4096], [0, 1, 4096], [2, 2, 2]])
 
     def test_what_is_handed_in_is_not_changed(self):
-        line = load(WORKED) + shown() + formula(2) + proves(4, 1) + load("axiom") + sizes(3)
+        line = (load(WORKED) + shown() + formula(2) + proves(4, 1) + load("axiom") + sizes(3) + detach(1, 0)
+                + compare(4, 0) + needs(4) + goals() + detach(9, 9))
         kept = list(line)
         first = answers(line)
         self.assertEqual(line, kept)
@@ -205,14 +222,16 @@ class Interface(unittest.TestCase):
         self.assertEqual(line, kept)
 
     def test_nothing_is_kept_from_one_time_to_the_next(self):
-        first = answers(load(WORKED) + formula(3))
-        self.assertEqual(answers(formula(3)), [1, -1])
+        line = load(WORKED) + formula(3) + detach(1, 0) + compare(4, 0) + needs(4) + goals()
+        first = answers(line)
+        for call in (formula(3), detach(1, 0), compare(4, 0), needs(4), goals()):
+            self.assertEqual(answers(call), [1, -1])
         answers(load("axiom k : ~ x ;"))
         self.assertEqual(answers(shown()), [1, -1])
-        self.assertEqual(answers(load(WORKED) + formula(3)), first)
+        self.assertEqual(answers(line), first)
 
     def test_what_is_given_back_may_be_changed(self):
-        line = load(WORKED) + formula(3) + shown()
+        line = load(WORKED) + formula(3) + shown() + detach(1, 0) + needs(4) + goals()
         first = answers(line)
         kept = list(first)
         first.clear()
@@ -220,14 +239,22 @@ class Interface(unittest.TestCase):
         self.assertIs(type(kept), list)
 
     def test_numbers_are_never_true_or_false(self):
-        found = answers(load(WORKED) + proves(3, 0) + proves(3, 1) + formula(3) + sizes(0) + shown())
+        found = answers(load(WORKED) + proves(3, 0) + proves(3, 1) + formula(3) + sizes(0) + shown() + detach(0, 3)
+                        + detach(1, 3) + compare(4, 0) + compare(3, 3) + needs(4) + goals())
         self.assertEqual({type(number) for number in found}, {int})
 
     def test_several_texts_on_one_object(self):
-        found = ask(load("axiom k : x ;"), sizes(1), load(WORKED), sizes(1), load(CHAIN), sizes(24), load(WORKED),
-                    sizes(24), sizes(4))
-        self.assertEqual(found, [[1, 1, 0, 0], [-2], [1, 2, 3, 3], [0, 0, 0], [1, 1, 24, 0], [2 ** 24 - 1, 24, 24],
-                                 [1, 2, 3, 3], [-2], [3, 3, 3]])
+        found = ask(load("axiom k : x ;"), sizes(1), goals(), load(WORKED), sizes(1), goals(), load(CHAIN), sizes(24),
+                    needs(24), goals(), load(WORKED), sizes(24), sizes(4), needs(4), load("axiom"), goals())
+        self.assertEqual(found, [[1, 1, 0, 0], [-2], [0], [1, 2, 3, 3], [0, 0, 0], [3, 3, 4, -1], [1, 1, 24, 0],
+                                 [2 ** 24 - 1, 24, 24], [25] + list(range(25)), [0],
+                                 [1, 2, 3, 3], [-2], [3, 3, 3], [5, 0, 1, 2, 3, 4], [0, 3, 5], [3, 3, 4, -1]])
+
+    def test_a_text_that_is_not_right_changes_nothing(self):
+        asked = [shown(), goals(), needs(3), detach(3, 0), detach(0, 3), compare(3, 2), formula(4), sizes(4)]
+        before = ask(load(WORKED), *asked)[1:]
+        for wrong in ("", "axiom k : x", "axiom k : x ; row r : k, k ; goal", "axiom k : ~ x ; row k : k, k ;", "!"):
+            self.assertEqual(ask(load(WORKED), load(wrong), *asked)[2:], before)
 
     def test_one_form_is_the_same_though_names_of_unknowns_differ(self):
         self.assertEqual(one_form("axiom k : a > b > a ;"), one_form("axiom k : q > ( ( p ) > q ) ;"))

@@ -3,11 +3,10 @@
 import unittest
 
 from helper import (
-    WORKED, ask, chance_of, detached, detached_slowly, fault, fitted, formula, is_instance, load, proves,
-    put_in, renamed, signs, some_tree, told, tree_of, written,
+    NO_FORMULA, NOTHING, WORKED, ask, chance_of, detached, detached_slowly, fitted, formula, instance_of,
+    is_instance, load, made_more_general, proves, put_in, renamed, signs, some_tree, told, tree_of, written,
 )
 
-NOTHING = [-5]
 # Formulas made to fit, of which the first one becomes one of just 1000 signs.
 FITTED = "x0 > ~ ~ ( x0 > x0 ) > x2 > ~ ~ ( x2 > x2 ) > x4 > ~ ~ ( x4 > x4 ) > x6"
 FITTING = "~ ~ ~ ~ x50 > x1 > ~ ~ ( x1 > x1 ) > x3 > ~ ~ ( x3 > x3 ) > x5 > ~ ( x5 > x5 )"
@@ -38,7 +37,7 @@ class Rule(unittest.TestCase):
 
     def test_the_first_item_comes_first(self):
         text = "axiom a : x > x > x ; axiom b : ~ y ; row r : a, b ; row s : b, a ;"
-        self.assertEqual(ask(load(text), formula(2), formula(3))[1:], [[5, 1, 2, 0, 0, 2, 0, 0], [-5]])
+        self.assertEqual(ask(load(text), formula(2), formula(3))[1:], [[5, 1, 2, 0, 0, 2, 0, 0], NO_FORMULA])
 
     def test_unknowns_are_numbered_anew_in_what_is_detached(self):
         self.assertEqual(detached("x > y > z > y", "w"), [5, 1, 0, 0, 1, 0, 1, 0, 0])
@@ -90,7 +89,7 @@ class Rule(unittest.TestCase):
         text = ("axiom d : ~ x ; axiom a : x > y ; axiom u : x ; row n : d, a ; row r : n, a ; row s : a, n ; "
                 "row t : u, n ; row v : n, u ; row w : n, n ; row x : t, u ; row y : u, a ;")
         answers = ask(load(text), *[formula(item) for item in range(3, 11)])
-        self.assertEqual(answers, [[1, 3, 8, 0]] + [NOTHING] * 7 + [UNKNOWN])
+        self.assertEqual(answers, [[1, 3, 8, 0]] + [NO_FORMULA] * 7 + [UNKNOWN])
 
     def test_1000_signs_when_put_in_and_more(self):
         self.assertEqual(detached(f"( {FITTED} ) > z", FITTING), UNKNOWN)
@@ -116,12 +115,12 @@ class Rule(unittest.TestCase):
                       formula(3), formula(4), formula(5), formula(6))
         self.assertEqual(answers[1][0], 60)
         self.assertEqual(answers[2], answers[1])
-        self.assertEqual(answers[3:], [NOTHING, NOTHING])
+        self.assertEqual(answers[3:], [NO_FORMULA, NO_FORMULA])
 
     def test_formulas_that_are_worked_out_nest_deep(self):
         denials = "~ " * 30
         text = f"axiom a : x > {denials}x ; axiom b : {denials}( {denials[:10]}x ) ; row r : a, b ; "
-        self.assertEqual(ask(load(text), formula(2))[1], NOTHING)
+        self.assertEqual(ask(load(text), formula(2))[1], NO_FORMULA)
         text = f"axiom a : x > {denials}x ; axiom b : {denials[:58]}x ; row r : a, b ; goal {denials}x ; "
         answers = ask(load(text), formula(2), proves(2, 0))[1:]
         self.assertEqual(answers, [[60] + [2] * 59 + [0, 0], [0]])
@@ -129,7 +128,7 @@ class Rule(unittest.TestCase):
         text = "axiom a : x > ( x > y ) > y ; axiom i : x ; row r0 : a, a ; " + \
                "".join(f"row r{n + 1} : a, r{n} ; " for n in range(20))
         deep = ask(load(text), *[formula(item) for item in range(2, 23)])[1:]
-        self.assertEqual([answer[0] for answer in deep if answer != NOTHING], list(range(11, 61, 4)))
+        self.assertEqual([answer[0] for answer in deep if answer != NO_FORMULA], list(range(11, 61, 4)))
 
     def test_formulas_that_double_again_and_again(self):
         # Two rows of nearly 60 signs each. Made to fit, y0 is x0 > x0, x1 is y0 > y0, y1 is x1 > x1,
@@ -151,7 +150,7 @@ class Rule(unittest.TestCase):
         text += "".join(f"row r{n + 1} : a, r{n} ; " for n in range(23))
         answers = ask(load(text), *[formula(item) for item in range(3, 27)])[1:]
         self.assertEqual([answer[0] for answer in answers[:4]], [5, 11, 23, 47])
-        self.assertEqual(answers[4:], [NOTHING] * 20)
+        self.assertEqual(answers[4:], [NO_FORMULA] * 20)
 
     def test_by_chance_as_worked_out_in_another_way(self):
         chance = chance_of(1)
@@ -173,12 +172,12 @@ class Rule(unittest.TestCase):
             pairs = [(chance.randrange(number), chance.randrange(number)) for number in range(4, 28)]
             rows = "".join(f"row a{number + 4} : a{pair[0]}, a{pair[1]} ; " for number, pair in enumerate(pairs))
             answers = ask(load(text + rows), *[formula(item) for item in range(28)])[1:]
-            trees = [None if answer == NOTHING else tree_of(answer[1:]) for answer in answers]
+            trees = [None if answer == NO_FORMULA else tree_of(answer[1:]) for answer in answers]
             for number, pair in enumerate(pairs):
                 expected = None
                 if trees[pair[0]] is not None and trees[pair[1]] is not None:
                     expected = detached_slowly(trees[pair[0]], trees[pair[1]])
-                self.assertEqual(answers[number + 4], NOTHING if expected is None else told(expected))
+                self.assertEqual(answers[number + 4], NO_FORMULA if expected is None else told(expected))
 
     def test_what_is_detached_follows_and_nothing_more_general_does(self):
         # Of ways to put formulas for the unknowns so that both become the same, each leads to an
@@ -230,19 +229,12 @@ class Rule(unittest.TestCase):
             text = f"axiom a : ( {written(first)} ) > {written(first)} ; axiom b : {written(first)} ; " \
                    f"axiom c : {written(second)} ; row r : a, c ; goal {written(both)} ; "
             answer = ask(load(text), formula(3))[1]
-            self.assertNotEqual(answer, NOTHING, text)
+            self.assertNotEqual(answer, NO_FORMULA, text)
             text += f"goal {written(tree_of(answer[1:]))} ;"
             calls = [proves(item, goal) for item in (1, 2, 3) for goal in (0, 1)]
             self.assertEqual(ask(load(text), *calls)[1:], [[1]] * 6, text)
             seen += first != second
         self.assertGreater(seen, 200)
-
-
-def made_more_general(tree, chance, names):
-    """A tree with an unknown in place of some parts, the same for the same ones, or not."""
-    if tree[0] == "x" or chance.random() < 0.25:
-        return ("x", names.setdefault((tree, chance.randrange(2)), len(names)))
-    return (tree[0],) + tuple(made_more_general(part, chance, names) for part in tree[1:])
 
 
 def numbers_of_long(text):
@@ -264,13 +256,6 @@ def numbers_of_long(text):
             return (">", part, read_implication())
         return part
     return told(read_implication())
-
-
-def instance_of(tree, put):
-    """A tree with other trees put for its unknowns, all at once."""
-    if tree[0] == "x":
-        return put[tree[1]]
-    return (tree[0],) + tuple(instance_of(part, put) for part in tree[1:])
 
 
 if __name__ == "__main__":
